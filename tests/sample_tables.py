@@ -1,0 +1,182 @@
+"""Tables for the tests, and slow second ways to the answers."""
+
+from itertools import permutations, product
+
+
+def flat(rows):
+    return [z for row in rows for z in row]
+
+
+def table(n, turn):
+    return [turn(x, y) for x in range(n) for y in range(n)]
+
+
+def still(n):
+    """x turns y into y."""
+    return table(n, lambda x, y: y)
+
+
+def mirrored(n):
+    """Points on a ring, mirrored in points."""
+    return table(n, lambda x, y: (2 * x - y) % n)
+
+
+def affine(m, a):
+    return table(m, lambda x, y: ((1 - a) * x + a * y) % m)
+
+
+def still_but(n, moved):
+    """Each thing moves nothing, but those of moved move as the rows given there."""
+    return flat([moved.get(x, list(range(n))) for x in range(n)])
+
+
+def compose(p, q):
+    return tuple(p[k] for k in q)
+
+
+def inverse(p):
+    return tuple(sorted(range(len(p)), key=lambda k: p[k]))
+
+
+def group(*generators):
+    """All products of the generators, in order."""
+    found = {tuple(range(len(generators[0])))}
+    while True:
+        more = found | {compose(p, g) for p in found for g in generators}
+        if more == found:
+            return sorted(found)
+        found = more
+
+
+def conjugation(members):
+    """x turns y into x y x^-1; members are closed under that."""
+    return table(len(members), lambda x, y: members.index(
+        compose(compose(members[x], members[y]), inverse(members[x]))))
+
+
+THREE = group((1, 0, 2), (1, 2, 0))
+FOUR_EVEN = group((1, 2, 0, 3), (0, 2, 3, 1))
+RING_OF_EIGHT = group((1, 2, 3, 4, 5, 6, 7, 0), (0, 7, 6, 5, 4, 3, 2, 1))
+QUATERNIONS = group((1, 2, 3, 0, 5, 6, 7, 4), (4, 7, 6, 5, 2, 1, 0, 3))
+SWAPS_OF_FOUR = sorted(p for p in permutations(range(4)) if sum(p[k] != k for k in range(4)) == 2)
+
+
+def relabelled(n, t, names):
+    """The table in which names[x] stands for x."""
+    u = [None] * (n * n)
+    for x, y in product(range(n), repeat=2):
+        u[names[x] * n + names[y]] = names[t[x * n + y]]
+    return u
+
+
+def shuffles(n):
+    """Some ways to name n things anew."""
+    yield [n - 1 - x for x in range(n)]
+    yield [(x + n // 2) % n for x in range(n)]
+    yield [x for x in range(n) if x % 2] + [x for x in range(n) if x % 2 == 0]
+
+
+def turning():
+    """(name, n, t) of tables whose things turn one another."""
+    for n in range(1, 17):
+        yield f"still {n}", n, still(n)
+        yield f"mirrored {n}", n, mirrored(n)
+    for m, a in ((4, 3), (5, 2), (7, 3), (8, 5), (9, 4), (13, 6), (15, 2), (16, 3), (16, 5), (16, 9)):
+        yield f"affine {m} {a}", m, affine(m, a)
+    for name, members in (("group of 6", THREE), ("group of 12", FOUR_EVEN), ("group of 16", RING_OF_EIGHT),
+                          ("quaternions", QUATERNIONS), ("swaps of 4", SWAPS_OF_FOUR)):
+        yield name, len(members), conjugation(members)
+    yield "one swaps two", 3, [0, 2, 1, 0, 1, 2, 0, 1, 2]
+    yield "the last moves all others round", 16, still_but(16, {15: [(y + 1) % 15 for y in range(15)] + [15]})
+    yield "the first moves all others round", 16, still_but(16, {0: [0] + [y % 15 + 1 for y in range(1, 16)]})
+    yield "two move four", 6, still_but(6, {4: [1, 0, 3, 2, 4, 5], 5: [2, 3, 0, 1, 4, 5]})
+
+
+def too_large():
+    """Tables with one number that is n or more; where n is above 1, x keeps x and nothing is merged."""
+    for n, t in ((1, still(1)), (2, still(2)), (3, mirrored(3)), (7, mirrored(7)), (16, still(16)), (16, mirrored(16))):
+        for k in range(n * n):
+            if n > 1 and k // n == k % n:
+                continue
+            for z in (n, n + t[k], 2 * n, n * n - 1, n * n, 255):
+                if z >= n:
+                    yield n, t[:k] + [z] + t[k + 1:]
+
+
+def not_keeping():
+    """Tables with an x that turns x into another, and nothing else amiss."""
+    for n in (2, 3, 5, 16):
+        yield n, table(n, lambda x, y: (y + 1) % n)
+        yield n, table(n, lambda x, y: n - 1 - y)
+    yield 3, [0, 2, 1] * 3
+    yield 16, (list(range(14)) + [15, 14]) * 16
+
+
+def merging():
+    """Tables with an x that turns two things into the same, and nothing else amiss."""
+    for n in (2, 3, 5, 16):
+        yield n, table(n, lambda x, y: x)
+        yield n, table(n, max)
+        yield n, table(n, min)
+    yield 3, [0, 1, 2, 0, 1, 2, 0, 0, 2]
+    yield 3, [0, 2, 2, 0, 1, 2, 0, 1, 2]
+    yield 16, still_but(16, {15: [0] + list(range(14)) + [15]})
+
+
+def not_turned():
+    """Tables whose turns aren't turned, and nothing else amiss."""
+    yield 3, [0, 2, 1, 2, 1, 0, 0, 1, 2]
+    yield 4, [0, 2, 3, 1, 0, 1, 3, 2, 0, 1, 2, 3, 0, 1, 2, 3]
+    yield 4, [0, 1, 2, 3, 0, 1, 2, 3, 0, 3, 2, 1, 1, 0, 2, 3]
+    # Only the turn by the last (the first) thing is amiss here.
+    yield 5, still_but(5, {0: [0, 1, 3, 2, 4], 4: [1, 0, 2, 3, 4]})
+    yield 5, still_but(5, {0: [0, 1, 2, 4, 3], 4: [0, 2, 1, 3, 4]})
+    yield 16, still_but(16, {0: [0, 2, 1] + list(range(3, 16)), 15: [1, 0] + list(range(2, 16))})
+    yield 16, still_but(16, {15: list(range(13)) + [14, 13, 15], 14: list(range(12)) + [13, 12, 14, 15]})
+
+
+def not_turning():
+    for makes in (too_large, not_keeping, merging, not_turned):
+        yield from makes()
+
+
+def rows_of(n, t):
+    return [tuple(t[x * n:x * n + n]) for x in range(n)]
+
+
+def keeps_itself(n, t):
+    return all(row[x] == x for x, row in enumerate(rows_of(n, t)))
+
+
+def merges_none(n, t):
+    return all(len(set(row)) == n for row in rows_of(n, t))
+
+
+def turns_turned(n, t):
+    rows = rows_of(n, t)
+    return all(compose(rows[x], rows[y]) == compose(rows[rows[x][y]], rows[x])
+               for x, y in product(range(n), repeat=2))
+
+
+def turn_one_another(n, t):
+    return max(t) < n and keeps_itself(n, t) and merges_none(n, t) and turns_turned(n, t)
+
+
+def tables_of_keeping_rows(n):
+    """All tables in which x keeps x and merges nothing."""
+    rows = [[p for p in permutations(range(n)) if p[x] == x] for x in range(n)]
+    return [flat(choice) for choice in product(*rows)]
+
+
+def orbits(n, t):
+    """The answer by labels that sink until none can sink further."""
+    label = list(range(n))
+    sinking = True
+    while sinking:
+        sinking = False
+        for x, y in product(range(n), repeat=2):
+            z = t[x * n + y]
+            low = min(label[y], label[z])
+            sinking = sinking or label[y] != label[z]
+            label[y] = label[z] = low
+    return [len(set(label))] + label

@@ -1,0 +1,80 @@
+"""Tables of things that turn one another: x turns y into t at x n + y."""
+
+MOST_THINGS = 16
+
+OUT_OF_RANGE = -2
+NOT_TURNING = -3
+
+
+def check(n, t):
+    if n < 1 or n > MOST_THINGS:
+        return [OUT_OF_RANGE]
+    return [1 if turn_one_another(n, t) else 0]
+
+
+def orbits(n, t):
+    if n < 1 or n > MOST_THINGS:
+        return [OUT_OF_RANGE]
+    if not turn_one_another(n, t):
+        return [NOT_TURNING]
+    least = [min(all_come_to(n, t, y)) for y in range(n)]
+    return [len(set(least))] + least
+
+
+def turned(n, t, x, y):
+    return t[x * n + y]
+
+
+# The order matters: only where all numbers are below n may they be looked up in the table again.
+def turn_one_another(n, t):
+    return all_below(n, t) and all_keep_themselves(n, t) and none_merge(n, t) and turns_are_turned(n, t)
+
+
+def all_below(n, t):
+    for z in t:
+        if z >= n:
+            return False
+    return True
+
+
+def all_keep_themselves(n, t):
+    for x in range(n):
+        if turned(n, t, x, x) != x:
+            return False
+    return True
+
+
+def none_merge(n, t):
+    for x in range(n):
+        if len(set(t[x * n:x * n + n])) != n:
+            return False
+    return True
+
+
+def turns_are_turned(n, t):
+    for x in range(n):
+        for y in range(n):
+            if not turn_is_turned(n, t, x, y):
+                return False
+    return True
+
+
+def turn_is_turned(n, t, x, y):
+    turner = turned(n, t, x, y)
+    for z in range(n):
+        if turned(n, t, x, turned(n, t, y, z)) != turned(n, t, turner, turned(n, t, x, z)):
+            return False
+    return True
+
+
+# The start is among them, since no turn is one, too.
+def all_come_to(n, t, start):
+    met = [start]
+    done = 0
+    while done < len(met):
+        for x in range(n):
+            z = turned(n, t, x, met[done])
+            if z not in met:
+                met.append(z)
+        done = done + 1
+    return met
