@@ -1,5 +1,6 @@
 """Tables for the tests, and slow second ways to the answers."""
 
+from functools import lru_cache
 from itertools import permutations, product
 
 
@@ -25,6 +26,33 @@ def affine(m, a):
     return table(m, lambda x, y: ((1 - a) * x + a * y) % m)
 
 
+def field_affine(bits, overflow):
+    """affine with a = 2, over the numbers of so many bits with overflow for what is carried out of them."""
+    n = 2 ** bits
+
+    def twice(z):
+        return 2 * z if 2 * z < n else 2 * z ^ overflow
+
+    return table(n, lambda x, y: x ^ twice(x ^ y))
+
+
+def pairs(n, t, m, u):
+    """Pairs of a thing of t and one of u, each turned by itself."""
+    return table(n * m, lambda x, y: t[x // m * n + y // m] * m + u[x % m * m + y % m])
+
+
+def apart(n, t, m, u):
+    """The things of t, then those of u; neither moves the other's."""
+    def turn(x, y):
+        if x < n and y < n:
+            return t[x * n + y]
+        if x >= n and y >= n:
+            return n + u[(x - n) * m + y - n]
+        return y
+
+    return table(n + m, turn)
+
+
 def still_but(n, moved):
     """Each thing moves nothing, but those of moved move as the rows given there."""
     return flat([moved.get(x, list(range(n))) for x in range(n)])
@@ -34,8 +62,14 @@ def compose(p, q):
     return tuple(p[k] for k in q)
 
 
+@lru_cache(maxsize=None)
 def inverse(p):
     return tuple(sorted(range(len(p)), key=lambda k: p[k]))
+
+
+@lru_cache(maxsize=None)
+def conjugated(x, y):
+    return compose(compose(x, y), inverse(x))
 
 
 def group(*generators):
@@ -50,15 +84,28 @@ def group(*generators):
 
 def conjugation(members):
     """x turns y into x y x^-1; members are closed under that."""
-    return table(len(members), lambda x, y: members.index(
-        compose(compose(members[x], members[y]), inverse(members[x]))))
+    return table(len(members), lambda x, y: members.index(conjugated(members[x], members[y])))
 
 
 THREE = group((1, 0, 2), (1, 2, 0))
 FOUR_EVEN = group((1, 2, 0, 3), (0, 2, 3, 1))
 RING_OF_EIGHT = group((1, 2, 3, 4, 5, 6, 7, 0), (0, 7, 6, 5, 4, 3, 2, 1))
 QUATERNIONS = group((1, 2, 3, 0, 5, 6, 7, 4), (4, 7, 6, 5, 2, 1, 0, 3))
-SWAPS_OF_FOUR = sorted(p for p in permutations(range(4)) if sum(p[k] != k for k in range(4)) == 2)
+FOUR = sorted(permutations(range(4)))
+FIVE = sorted(permutations(range(5)))
+FIVE_EVEN = group((1, 2, 3, 4, 0), (1, 2, 0, 3, 4))
+
+
+def made_of(y, members):
+    """All that members make of y by x y x^-1, in order."""
+    return sorted({conjugated(x, y) for x in members})
+
+
+SWAPS_OF_FOUR = made_of((1, 0, 2, 3), FOUR)
+ROUNDS_OF_FOUR = made_of((1, 2, 3, 0), FOUR)
+SWAPS_OF_FIVE = made_of((1, 0, 2, 3, 4), FIVE)
+DOUBLE_SWAPS_OF_FIVE = made_of((1, 0, 3, 2, 4), FIVE)
+HALF_THE_ROUNDS_OF_FIVE = made_of((1, 2, 3, 4, 0), FIVE_EVEN)
 
 
 def relabelled(n, t, names):
@@ -84,17 +131,29 @@ def turning():
     for m, a in ((4, 3), (5, 2), (7, 3), (8, 5), (9, 4), (13, 6), (15, 2), (16, 3), (16, 5), (16, 9)):
         yield f"affine {m} {a}", m, affine(m, a)
     for name, members in (("group of 6", THREE), ("group of 12", FOUR_EVEN), ("group of 16", RING_OF_EIGHT),
-                          ("quaternions", QUATERNIONS), ("swaps of 4", SWAPS_OF_FOUR)):
+                          ("quaternions", QUATERNIONS), ("swaps of 4", SWAPS_OF_FOUR),
+                          ("rounds of 4", ROUNDS_OF_FOUR), ("swaps of 5", SWAPS_OF_FIVE),
+                          ("double swaps of 5", DOUBLE_SWAPS_OF_FIVE),
+                          ("half the rounds of 5", HALF_THE_ROUNDS_OF_FIVE)):
         yield name, len(members), conjugation(members)
+    for bits, overflow in ((2, 0b111), (3, 0b1011), (4, 0b10011)):
+        yield f"field of {2 ** bits}", 2 ** bits, field_affine(bits, overflow)
+    yield "pairs of 3 and 4", 12, pairs(3, mirrored(3), 4, field_affine(2, 0b111))
+    yield "pairs of 4 and 4", 16, pairs(4, field_affine(2, 0b111), 4, field_affine(2, 0b111))
+    yield "pairs of 3 and 5, the 5 still", 15, pairs(3, mirrored(3), 5, still(5))
     yield "one swaps two", 3, [0, 2, 1, 0, 1, 2, 0, 1, 2]
     yield "the last moves all others round", 16, still_but(16, {15: [(y + 1) % 15 for y in range(15)] + [15]})
     yield "the first moves all others round", 16, still_but(16, {0: [0] + [y % 15 + 1 for y in range(1, 16)]})
     yield "two move four", 6, still_but(6, {4: [1, 0, 3, 2, 4, 5], 5: [2, 3, 0, 1, 4, 5]})
+    yield "the last moves five round", 6, still_but(6, {5: [1, 2, 3, 4, 0, 5]})
+    yield "the last moves two and three round", 6, still_but(6, {5: [1, 0, 3, 4, 2, 5]})
+    yield "two threes, each mirrored", 6, apart(3, mirrored(3), 3, mirrored(3))
 
 
 def too_large():
     """Tables with one number that is n or more; where n is above 1, x keeps x and nothing is merged."""
-    for n, t in ((1, still(1)), (2, still(2)), (3, mirrored(3)), (7, mirrored(7)), (16, still(16)), (16, mirrored(16))):
+    for n, t in ((1, still(1)), (2, still(2)), (3, mirrored(3)), (7, mirrored(7)), (8, still(8)), (9, mirrored(9)),
+                 (10, mirrored(10)), (16, still(16)), (16, mirrored(16))):
         for k in range(n * n):
             if n > 1 and k // n == k % n:
                 continue
@@ -105,8 +164,9 @@ def too_large():
 
 def not_keeping():
     """Tables with an x that turns x into another, and nothing else amiss."""
-    for n in (2, 3, 5, 16):
+    for n in (2, 3, 5, 6, 7, 8, 9, 10, 16):
         yield n, table(n, lambda x, y: (y + 1) % n)
+        # Where n is odd, the middle thing keeps itself; the others don't.
         yield n, table(n, lambda x, y: n - 1 - y)
     yield 3, [0, 2, 1] * 3
     yield 16, (list(range(14)) + [15, 14]) * 16
@@ -114,7 +174,7 @@ def not_keeping():
 
 def merging():
     """Tables with an x that turns two things into the same, and nothing else amiss."""
-    for n in (2, 3, 5, 16):
+    for n in (2, 3, 5, 6, 7, 8, 9, 10, 16):
         yield n, table(n, lambda x, y: x)
         yield n, table(n, max)
         yield n, table(n, min)
@@ -131,13 +191,20 @@ def not_turned():
     # Only the turn by the last (the first) thing is amiss here.
     yield 5, still_but(5, {0: [0, 1, 3, 2, 4], 4: [1, 0, 2, 3, 4]})
     yield 5, still_but(5, {0: [0, 1, 2, 4, 3], 4: [0, 2, 1, 3, 4]})
-    yield 16, still_but(16, {0: [0, 2, 1] + list(range(3, 16)), 15: [1, 0] + list(range(2, 16))})
-    yield 16, still_but(16, {15: list(range(13)) + [14, 13, 15], 14: list(range(12)) + [13, 12, 14, 15]})
+    for n in (6, 7, 8, 9, 10, 16):
+        yield n, still_but(n, {0: [0, 2, 1] + list(range(3, n)), n - 1: [1, 0] + list(range(2, n))})
+        yield n, still_but(n, {n - 1: list(range(n - 3)) + [n - 2, n - 3, n - 1],
+                               n - 2: list(range(n - 4)) + [n - 3, n - 4, n - 2, n - 1]})
 
 
 def not_turning():
     for makes in (too_large, not_keeping, merging, not_turned):
         yield from makes()
+
+
+def up_to(most, tables):
+    """Those of (name, n, t) or (n, t) with at most so many things."""
+    return [one for one in tables if one[-2] <= most]
 
 
 def rows_of(n, t):
@@ -180,3 +247,54 @@ def orbits(n, t):
             sinking = sinking or label[y] != label[z]
             label[y] = label[z] = low
     return [len(set(label))] + label
+
+
+@lru_cache(maxsize=None)
+def every_turning(n):
+    """All tables of n things that turn one another, found row by row; what rows make of rows is filled in."""
+    found, ahead = [], [{}]
+    while ahead:
+        rows = ahead.pop()
+        if len(rows) == n:
+            found.append(tuple(flat(rows[x] for x in range(n))))
+            continue
+        x = min(set(range(n)) - set(rows))
+        tried = [filled_in({**rows, x: p}) for p in permutations(range(n)) if p[x] == x]
+        ahead.extend(more for more in tried if more is not None)
+    return found
+
+
+def filled_in(rows):
+    """With each row that two others make, or None if it is there and another."""
+    size = 0
+    while size != len(rows):
+        size = len(rows)
+        for x, y in product(list(rows), repeat=2):
+            made = conjugated(rows[x], rows[y])
+            if rows.setdefault(rows[x][y], made) != made:
+                return None
+    return rows
+
+
+def turns(n, t):
+    """The answer thing by thing: how many ways to move it, times those of the turns that then keep it."""
+    keeping, size = set(rows_of(n, t)), 1
+    for start in range(n):
+        ways = {start: tuple(range(n))}
+        ahead = [start]
+        while ahead:
+            y = ahead.pop()
+            for g in keeping:
+                if g[y] not in ways:
+                    ways[g[y]] = compose(g, ways[y])
+                    ahead.append(g[y])
+        keeping = {compose(inverse(ways[g[y]]), compose(g, ways[y])) for y in ways for g in keeping}
+        size *= len(ways)
+    return [size]
+
+
+def latin(n, t):
+    """The answer by pairs: no two rows meet anywhere."""
+    rows = rows_of(n, t)
+    meeting = any(rows[x][y] == rows[w][y] for x, w, y in product(range(n), repeat=3) if x < w)
+    return [0 if meeting else 1]

@@ -4,7 +4,10 @@ import io
 import unittest
 
 import sample_tables as samples
-from turningthings.tables import check, orbits
+from turningthings.tables import check, latin, orbits, turns
+
+# (function, the most things in its range, the most things it is called with where it isn't refused)
+FUNCTIONS = ((check, 16, 16), (orbits, 16, 16), (turns, 10, 6), (latin, 16, 16))
 
 
 class Watched(list):
@@ -19,18 +22,18 @@ class Watched(list):
 
 def calls():
     """(function, n, t) of every kind of answer and refusal."""
-    for function in (check, orbits):
-        for n in (0, 17, 4294967295):
+    for function, most, most_asked in FUNCTIONS:
+        for n in (0, most + 1, 17, 4294967295):
             yield function, n, []
-        for name, n, t in samples.turning():
+        for name, n, t in samples.up_to(most_asked, samples.turning()):
             yield function, n, t
-        for n, t in samples.not_turning():
+        for n, t in samples.up_to(most, samples.not_turning()):
             yield function, n, t
 
 
 class Interface(unittest.TestCase):
     def test_names_of_arguments(self):
-        for function in (check, orbits):
+        for function, most, most_asked in FUNCTIONS:
             self.assertEqual(list(inspect.signature(function).parameters), ["n", "t"])
 
     def test_a_list_of_whole_numbers_is_given_back(self):
@@ -65,11 +68,11 @@ class Interface(unittest.TestCase):
 
     def test_the_same_list_with_other_numbers_is_read_anew(self):
         t = samples.mirrored(3)
-        self.assertEqual((check(3, t), orbits(3, t)), ([1], [1, 0, 0, 0]))
+        self.assertEqual([function(3, t) for function, *most in FUNCTIONS], [[1], [1, 0, 0, 0], [6], [1]])
         t[:] = samples.still(3)
-        self.assertEqual((check(3, t), orbits(3, t)), ([1], [3, 0, 1, 2]))
+        self.assertEqual([function(3, t) for function, *most in FUNCTIONS], [[1], [3, 0, 1, 2], [1], [0]])
         t[1] = 0
-        self.assertEqual((check(3, t), orbits(3, t)), ([0], [-3]))
+        self.assertEqual([function(3, t) for function, *most in FUNCTIONS], [[0], [-3], [-3], [-3]])
 
     def test_nothing_is_printed(self):
         out, err = io.StringIO(), io.StringIO()

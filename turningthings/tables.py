@@ -1,6 +1,7 @@
 """Tables of things that turn one another: x turns y into t at x n + y."""
 
 MOST_THINGS = 16
+MOST_THINGS_IN_TURNS = 10
 
 OUT_OF_RANGE = -2
 NOT_TURNING = -3
@@ -13,12 +14,34 @@ def check(n, t):
 
 
 def orbits(n, t):
-    if n < 1 or n > MOST_THINGS:
+    refused = refusal(n, t, MOST_THINGS)
+    if refused != []:
+        return refused
+    least = [min(all_come_to(n, t, y)) for y in range(n)]
+    return [len(set(least))] + least
+
+
+def turns(n, t):
+    refused = refusal(n, t, MOST_THINGS_IN_TURNS)
+    if refused != []:
+        return refused
+    return [len(all_ways(n, t))]
+
+
+def latin(n, t):
+    refused = refusal(n, t, MOST_THINGS)
+    if refused != []:
+        return refused
+    return [1 if all_turn_apart(n, t) else 0]
+
+
+# The order matters: where n is out of range, t holds no table to look into.
+def refusal(n, t, most):
+    if n < 1 or n > most:
         return [OUT_OF_RANGE]
     if not turn_one_another(n, t):
         return [NOT_TURNING]
-    least = [min(all_come_to(n, t, y)) for y in range(n)]
-    return [len(set(least))] + least
+    return []
 
 
 def turned(n, t, x, y):
@@ -78,3 +101,26 @@ def all_come_to(n, t, start):
                 met.append(z)
         done = done + 1
     return met
+
+
+# Turning back needs no step of its own: a turn taken often enough comes round to where it began.
+def all_ways(n, t):
+    rows = [t[x * n:x * n + n] for x in range(n)]
+    ways = [tuple(range(n))]
+    met = {ways[0]: True}
+    done = 0
+    while done < len(ways):
+        for row in rows:
+            way = tuple([row[z] for z in ways[done]])
+            if way not in met:
+                met[way] = True
+                ways.append(way)
+        done = done + 1
+    return ways
+
+
+def all_turn_apart(n, t):
+    for y in range(n):
+        if len(set([turned(n, t, x, y) for x in range(n)])) != n:
+            return False
+    return True
