@@ -298,3 +298,41 @@ def latin(n, t):
     rows = rows_of(n, t)
     meeting = any(rows[x][y] == rows[w][y] for x, w, y in product(range(n), repeat=3) if x < w)
     return [0 if meeting else 1]
+
+
+@lru_cache(maxsize=None)
+def classes(n):
+    """For one table of each sort: it, and all that other names make of it, each with the first names that do."""
+    left = dict.fromkeys(every_turning(n))
+    found = []
+    while left:
+        t = next(iter(left))
+        named = {}
+        for names in permutations(range(n)):
+            named.setdefault(tuple(relabelled(n, t, names)), list(names))
+        for u in named:
+            del left[u]
+        found.append((t, named))
+    return found
+
+
+def same(n, t, u):
+    """The answer by trying all names, in order."""
+    for names in permutations(range(n)):
+        if relabelled(n, t, names) == list(u):
+            return [0, *names]
+    return [-5]
+
+
+def takes(n, m, t, u, row):
+    return all(row[t[x * n + y]] == u[row[x] * m + row[y]] for x in range(n) for y in range(n))
+
+
+def images(n, m, t, u):
+    """The answer by trying all rows."""
+    return [0, sum(takes(n, m, t, u, row) for row in product(range(m), repeat=n))]
+
+
+def sizes_of_images():
+    """All n and m that images is called with where it isn't refused."""
+    return [(n, m) for n in range(1, 9) for m in range(1, 9) if m ** n <= 4000]

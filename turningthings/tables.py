@@ -2,9 +2,11 @@
 
 MOST_THINGS = 16
 MOST_THINGS_IN_TURNS = 10
+MOST_THINGS_IN_IMAGES = 8
 
 OUT_OF_RANGE = -2
 NOT_TURNING = -3
+NONE_FOUND = -5
 
 
 def check(n, t):
@@ -35,11 +37,37 @@ def latin(n, t):
     return [1 if all_turn_apart(n, t) else 0]
 
 
+def same(n, t, u):
+    refused = refusal_of_two(n, n, t, u, MOST_THINGS)
+    if refused != []:
+        return refused
+    row = first_row_of_all(n, t, u)
+    if row == []:
+        return [NONE_FOUND]
+    return [0] + row
+
+
+def images(n, m, t, u):
+    refused = refusal_of_two(n, m, t, u, MOST_THINGS_IN_IMAGES)
+    if refused != []:
+        return refused
+    return [0, len(all_rows(n, m, t, u))]
+
+
 # The order matters: where n is out of range, t holds no table to look into.
 def refusal(n, t, most):
     if n < 1 or n > most:
         return [OUT_OF_RANGE]
     if not turn_one_another(n, t):
+        return [NOT_TURNING]
+    return []
+
+
+# Both ranges come first: where either is off, t and u both hold no table.
+def refusal_of_two(n, m, t, u, most):
+    if n < 1 or n > most or m < 1 or m > most:
+        return [OUT_OF_RANGE]
+    if not turn_one_another(n, t) or not turn_one_another(m, u):
         return [NOT_TURNING]
     return []
 
@@ -123,4 +151,41 @@ def all_turn_apart(n, t):
     for y in range(n):
         if len(set([turned(n, t, x, y) for x in range(n)])) != n:
             return False
+    return True
+
+
+# What is put on last is taken up first, so the least images are put on last.
+def first_row_of_all(n, t, u):
+    ahead = [[]]
+    while ahead != []:
+        row = ahead.pop()
+        if len(row) == n:
+            return row
+        for longer in reversed(longer_rows(n, n, t, u, row)):
+            if len(set(longer)) == len(longer):
+                ahead.append(longer)
+    return []
+
+
+def all_rows(n, m, t, u):
+    rows = [[]]
+    for x in range(n):
+        found = []
+        for row in rows:
+            found.extend(longer_rows(n, m, t, u, row))
+        rows = found
+    return rows
+
+
+def longer_rows(n, m, t, u, row):
+    return [row + [z] for z in range(m) if takes_turns(n, m, t, u, row + [z])]
+
+
+# A turn into a thing behind the row's end is looked at when the row has come that far.
+def takes_turns(n, m, t, u, row):
+    for x in range(len(row)):
+        for y in range(len(row)):
+            z = turned(n, t, x, y)
+            if z < len(row) and row[z] != turned(m, u, row[x], row[y]):
+                return False
     return True
