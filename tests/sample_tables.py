@@ -336,3 +336,46 @@ def images(n, m, t, u):
 def sizes_of_images():
     """All n and m that images is called with where it isn't refused."""
     return [(n, m) for n in range(1, 9) for m in range(1, 9) if m ** n <= 4000]
+
+
+def turned_back(n, t):
+    """x turns y into what x turns into y by t."""
+    return flat(inverse(row) for row in rows_of(n, t))
+
+
+def holds(n, t, row, over, comes_in, goes_out, side):
+    first, last = (comes_in, goes_out) if side == 1 else (goes_out, comes_in)
+    return t[row[over] * n + row[first]] == row[last]
+
+
+def fours(passings):
+    return list(zip(*[iter(passings)] * 4))
+
+
+def colours(n, a, t, passings):
+    """The answer by trying all colours for all lines."""
+    return [0, sum(all(holds(n, t, row, *four) for four in fours(passings)) for row in product(range(n), repeat=a))]
+
+
+def sizes_of_colours():
+    """All n and a that colours is called with where it isn't refused."""
+    return [(n, a) for n in range(1, 9) for a in range(11) if n ** a <= 4000]
+
+
+def twisted(k, side):
+    """Two threads twisted round one another k times and closed: of 3 twists the trefoil, of 2 two linked rings."""
+    return flat((z, (z - 1) % k, (z + 1) % k, side) for z in range(k))
+
+
+FIGURE_EIGHT = [0, 1, 2, 1, 2, 3, 0, 1, 1, 2, 3, 0, 3, 0, 1, 0]
+
+
+def planted(n, a, c, t, chance):
+    """Up to c passings that hold for some colours drawn by chance, so that there's more than one way."""
+    row = [chance.randrange(n) for line in range(a)]
+    passings = []
+    for tried in range(8 * c):
+        four = [chance.randrange(a), chance.randrange(a), chance.randrange(a), chance.randrange(2)]
+        if len(passings) < 4 * c and holds(n, t, row, *four):
+            passings += four
+    return passings

@@ -4,13 +4,14 @@ import io
 import unittest
 
 import sample_tables as samples
-from turningthings.tables import check, images, latin, orbits, same, turns
+from turningthings.tables import affine, check, colours, images, latin, orbits, same, turns
 
 # (function, the most things in its range, the most things it is called with where it isn't refused)
 OF_ONE_TABLE = ((check, 16, 16), (orbits, 16, 16), (turns, 10, 6), (latin, 16, 16))
 
 PARAMETERS = ((check, ["n", "t"]), (orbits, ["n", "t"]), (turns, ["n", "t"]), (latin, ["n", "t"]),
-              (same, ["n", "t", "u"]), (images, ["n", "m", "t", "u"]))
+              (same, ["n", "t", "u"]), (images, ["n", "m", "t", "u"]), (colours, ["n", "a", "c", "t", "passings"]),
+              (affine, ["m", "a"]))
 
 
 class Watched(list):
@@ -28,6 +29,8 @@ def calls():
     yield from calls_of_one_table()
     yield from calls_of_same()
     yield from calls_of_images()
+    yield from calls_of_colours()
+    yield from calls_of_affine()
 
 
 def calls_of_one_table():
@@ -68,6 +71,34 @@ def calls_of_images():
         yield images, (1, n, [0], t)
 
 
+def calls_of_colours():
+    for n, a, c in ((0, 1, 1), (9, 1, 1), (4294967295, 0, 0), (1, 11, 1), (8, 2147483648, 0), (1, 1, 33),
+                    (8, 0, 4294967295)):
+        yield colours, (n, a, c, [], [])
+    for name, n, t in samples.up_to(8, samples.turning()):
+        yield colours, (n, 0, 0, t, [])
+        yield colours, (n, 3, 3, t, samples.twisted(3, 1))
+        yield colours, (n, 3, 32, t, [0, 1, 2, 0, 2, 1, 1, 1] * 16)
+        yield colours, (n, 3, 1, t, [0, 1, 3, 0])
+        yield colours, (n, 3, 1, t, [0, 1, 2, 2])
+        yield colours, (n, 0, 1, t, [0, 0, 0, 0])
+    for n, a in samples.sizes_of_colours():
+        yield colours, (n, a, a, samples.mirrored(n), samples.twisted(a, 0))
+    for n, t in one_in_twenty(samples.up_to(8, samples.not_turning())):
+        yield colours, (n, 3, 3, t, samples.twisted(3, 1))
+    # t and passings may be the very same list, too.
+    one_for_both = [0, 1, 0, 1]
+    yield colours, (2, 2, 1, one_for_both, one_for_both)
+
+
+def calls_of_affine():
+    for m in range(18):
+        for a in [*range(m + 2), 2147483648, 4294967295]:
+            yield affine, (m, a)
+    for m in (2147483647, 2147483648, 4294967295):
+        yield affine, (m, 1)
+
+
 def one_in_twenty(tables):
     return list(tables)[::20]
 
@@ -97,7 +128,8 @@ class Interface(unittest.TestCase):
     def test_how_many_numbers_are_given_back(self):
         for function, arguments in calls():
             answer = function(*arguments)
-            more = {orbits: arguments[0], same: arguments[0], images: 1}.get(function, 0)
+            first = arguments[0]
+            more = {orbits: first, same: first, images: 1, colours: 1, affine: first * first}.get(function, 0)
             self.assertEqual(len(answer), 1 if answer[0] < 0 else 1 + more)
 
     def test_every_answer_and_refusal_is_among_the_calls(self):
@@ -105,7 +137,8 @@ class Interface(unittest.TestCase):
         for function, arguments in calls():
             met.setdefault(function, set()).add(min(function(*arguments)[0], 1))
         self.assertEqual(met, {check: {-2, 0, 1}, orbits: {-2, -3, 1}, turns: {-2, -3, 1}, latin: {-2, -3, 0, 1},
-                               same: {-2, -3, -5, 0}, images: {-2, -3, 0}})
+                               same: {-2, -3, -5, 0}, images: {-2, -3, 0}, colours: {-2, -3, 0},
+                               affine: {-2, -5, 0}})
 
     def test_what_is_handed_in_is_not_changed(self):
         for function, arguments in calls():
@@ -140,16 +173,24 @@ class Interface(unittest.TestCase):
 
     def test_the_same_list_with_other_numbers_is_read_anew(self):
         t = samples.mirrored(3)
-        self.assertEqual(self.answers_of_three(t), [[1], [1, 0, 0, 0], [6], [1], [-5], [0, 3]])
+        self.assertEqual(self.answers_of_three(t), [[1], [1, 0, 0, 0], [6], [1], [-5], [0, 3], [0, 9]])
         t[:] = samples.still(3)
-        self.assertEqual(self.answers_of_three(t), [[1], [3, 0, 1, 2], [1], [0], [0, 0, 1, 2], [0, 27]])
+        self.assertEqual(self.answers_of_three(t), [[1], [3, 0, 1, 2], [1], [0], [0, 0, 1, 2], [0, 27], [0, 3]])
         t[1] = 0
-        self.assertEqual(self.answers_of_three(t), [[0], [-3], [-3], [-3], [-3], [-3]])
+        self.assertEqual(self.answers_of_three(t), [[0], [-3], [-3], [-3], [-3], [-3], [-3]])
 
     def answers_of_three(self, t):
         still = samples.still(3)
         alone = [function(3, t) for function in (check, orbits, turns, latin)]
-        return alone + [same(3, t, still), images(3, 3, t, still)]
+        return alone + [same(3, t, still), images(3, 3, t, still), colours(3, 3, 3, t, samples.twisted(3, 1))]
+
+    def test_the_same_passings_with_other_numbers_are_read_anew(self):
+        t, passings = samples.affine(5, 2), [0, 1, 2, 1, 0, 2, 1, 0]
+        self.assertEqual(colours(5, 3, 2, t, passings), [0, 25])
+        passings[7] = 1
+        self.assertEqual(colours(5, 3, 2, t, passings), [0, 5])
+        passings[7] = 2
+        self.assertEqual(colours(5, 3, 2, t, passings), [-3])
 
     def test_nothing_is_printed(self):
         out, err = io.StringIO(), io.StringIO()

@@ -3,10 +3,15 @@
 MOST_THINGS = 16
 MOST_THINGS_IN_TURNS = 10
 MOST_THINGS_IN_IMAGES = 8
+MOST_THINGS_IN_COLOURS = 8
+MOST_LINES = 10
+MOST_PASSINGS = 32
 
 OUT_OF_RANGE = -2
 NOT_TURNING = -3
+NOT_THERE = -3
 NONE_FOUND = -5
+DIVISOR_TOGETHER = -5
 
 
 def check(n, t):
@@ -54,6 +59,22 @@ def images(n, m, t, u):
     return [0, len(all_rows(n, m, t, u))]
 
 
+def colours(n, a, c, t, passings):
+    refused = refusal_of_lines(n, a, c, t, passings)
+    if refused != []:
+        return refused
+    return [0, len(all_colourings(n, a, t, each_passing(c, passings)))]
+
+
+# A number below 0 is handed in as one of 2147483648 or more, so what is above the range stands for it, too.
+def affine(m, a):
+    if m < 1 or m > MOST_THINGS or a > m:
+        return [OUT_OF_RANGE]
+    if have_divisor_together(m, a):
+        return [DIVISOR_TOGETHER]
+    return [0] + affine_table(m, a)
+
+
 # The order matters: where n is out of range, t holds no table to look into.
 def refusal(n, t, most):
     if n < 1 or n > most:
@@ -69,6 +90,18 @@ def refusal_of_two(n, m, t, u, most):
         return [OUT_OF_RANGE]
     if not turn_one_another(n, t) or not turn_one_another(m, u):
         return [NOT_TURNING]
+    return []
+
+
+# A number below 0 is handed in as one of 2147483648 or more, so what is above the range stands for it, too.
+def refusal_of_lines(n, a, c, t, passings):
+    if n < 1 or n > MOST_THINGS_IN_COLOURS or a > MOST_LINES or c > MOST_PASSINGS:
+        return [OUT_OF_RANGE]
+    if not turn_one_another(n, t):
+        return [NOT_TURNING]
+    for passing in each_passing(c, passings):
+        if not is_there(a, passing):
+            return [NOT_THERE]
     return []
 
 
@@ -189,3 +222,56 @@ def takes_turns(n, m, t, u, row):
             if z < len(row) and row[z] != turned(m, u, row[x], row[y]):
                 return False
     return True
+
+
+def each_passing(c, passings):
+    return [passings[4 * k:4 * k + 4] for k in range(c)]
+
+
+def is_there(a, passing):
+    return max(passing[:3]) < a and passing[3] <= 1
+
+
+def all_colourings(n, a, t, fours):
+    rows = [[]]
+    for line in range(a):
+        found = []
+        for row in rows:
+            found.extend(longer_colourings(n, t, fours, row))
+        rows = found
+    return rows
+
+
+def longer_colourings(n, t, fours, row):
+    return [row + [z] for z in range(n) if are_coloured(n, t, fours, row + [z])]
+
+
+# A passing with a line behind the row's end is looked at when the row has come that far.
+def are_coloured(n, t, fours, row):
+    for passing in fours:
+        if max(passing[:3]) < len(row) and not is_coloured(n, t, passing, row):
+            return False
+    return True
+
+
+def is_coloured(n, t, passing, row):
+    over = row[passing[0]]
+    comes_in = row[passing[1]]
+    goes_out = row[passing[2]]
+    if passing[3] == 1:
+        return turned(n, t, over, comes_in) == goes_out
+    return turned(n, t, over, goes_out) == comes_in
+
+
+def have_divisor_together(m, a):
+    for d in range(2, m + 1):
+        if m % d == 0 and a % d == 0:
+            return True
+    return False
+
+
+def affine_table(m, a):
+    table = []
+    for x in range(m):
+        table.extend([((1 - a) * x + a * y) % m for y in range(m)])
+    return table
