@@ -324,6 +324,34 @@ def same(n, t, u):
     return [-5]
 
 
+def rounds(row):
+    """For each thing, how many turns by the row bring it back to itself; in order."""
+    found = []
+    for y in range(len(row)):
+        z, size = row[y], 1
+        while z != y:
+            z, size = row[z], size + 1
+        found.append(size)
+    return sorted(found)
+
+
+def outline(n, t):
+    """What other names don't change: where it differs, tables are not the same."""
+    least = orbits(n, t)[1:]
+    return sorted((rounds(row), least.count(least[x])) for x, row in enumerate(rows_of(n, t)))
+
+
+def swapping(n, swaps):
+    """Things of which each swaps the pairs named for it; then come the pairs."""
+    first = len(swaps)
+
+    def turn(x, y):
+        swapped = x < first <= y and (y - first) // 2 in swaps[x]
+        return first + ((y - first) ^ 1) if swapped else y
+
+    return table(n, turn)
+
+
 def takes(n, m, t, u, row):
     return all(row[t[x * n + y]] == u[row[x] * m + row[y]] for x in range(n) for y in range(n))
 

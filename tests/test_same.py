@@ -2,7 +2,7 @@ import unittest
 from itertools import product
 
 import sample_tables as samples
-from turningthings.tables import same
+from turningthings.tables import look_apart, same
 
 # Where it isn't refused, same is called with no more things than these.
 MOST_ASKED = 6
@@ -92,6 +92,84 @@ class Same(unittest.TestCase):
             with self.subTest(t=t, u=u):
                 self.assertEqual(same(n, t, u), [-5])
                 self.assertEqual(same(n, u, t), [-5])
+
+
+class ManyThings(unittest.TestCase):
+    """-5 is a refusal, so it is asked for up to 16 things, where all rows are too many to be tried."""
+
+    def check_not_the_same(self, n, t, u):
+        for names in samples.shuffles(n):
+            self.assertEqual(same(n, t, samples.relabelled(n, u, names)), [-5])
+            self.assertEqual(same(n, u, samples.relabelled(n, t, names)), [-5])
+
+    def test_samples(self):
+        tables = [(n, t, samples.outline(n, t)) for name, n, t in samples.turning() if n > MOST_ASKED]
+        met = set()
+        for (n, t, outline), (m, u, other) in product(tables, repeat=2):
+            if n == m and outline != other:
+                met.add(n)
+                names = list(samples.shuffles(n))[0]
+                with self.subTest(t=t, u=u):
+                    self.assertEqual(same(n, t, samples.relabelled(n, u, names)), [-5])
+        self.assertEqual(met, set(range(7, 17)))
+
+    def test_all_but_still(self):
+        for n in range(7, 17):
+            still = samples.still(n)
+            self.check_not_the_same(n, still, samples.still_but(n, {n - 1: [1, 0, *range(2, n)]}))
+            self.check_not_the_same(n, still, samples.still_but(n, {0: [*range(n - 2), n - 1, n - 2]}))
+            self.check_not_the_same(n, still, samples.still_but(n, {0: [0, *range(2, n), 1]}))
+
+    def test_other_steps_of_a_prime(self):
+        # Where all things come to one another, a of affine is told by the table.
+        for m in (7, 11, 13):
+            for a, b in product(range(2, m), repeat=2):
+                if b == a + 1 or a != b and a * b % m == 1:
+                    self.assertEqual(same(m, samples.affine(m, a), samples.affine(m, b)), [-5])
+
+    def test_other_steps_among_still_things(self):
+        for n in range(7, 17):
+            self.check_not_the_same(n, samples.apart(n - 5, samples.still(n - 5), 5, samples.affine(5, 2)),
+                                    samples.apart(5, samples.affine(5, 3), n - 5, samples.still(n - 5)))
+
+    def test_other_rounds_of_one_row(self):
+        for n in (8, 12, 16):
+            self.check_not_the_same(n, samples.still_but(n, {n - 1: [1, 2, 3, 4, 0, *range(5, n)]}),
+                                    samples.still_but(n, {n - 1: [1, 0, 3, 4, 2, *range(5, n)]}))
+
+    def test_one_ring_of_pairs_or_two(self):
+        # Each of five things swaps two of five pairs, each pair is swapped by two.
+        one = samples.swapping(15, [{0, 1}, {1, 2}, {2, 3}, {3, 4}, {4, 0}])
+        two = samples.swapping(15, [{0, 1}, {1, 0}, {2, 3}, {3, 4}, {4, 2}])
+        self.assertEqual(samples.outline(15, one), samples.outline(15, two))
+        self.check_not_the_same(15, one, two)
+
+    def test_seven_things_that_are_the_same(self):
+        for name, n, t in samples.turning():
+            if n == 7:
+                for names in samples.shuffles(n):
+                    u = samples.relabelled(n, t, names)
+                    with self.subTest(name, names=names):
+                        self.assertEqual(same(n, t, u), samples.same(n, t, u))
+
+    def test_other_names_look_the_same(self):
+        for name, n, t in samples.turning():
+            for names in list(samples.shuffles(n))[:3 if n < 10 else 1]:
+                with self.subTest(name, names=names):
+                    self.assertFalse(look_apart(n, t, samples.relabelled(n, t, names)))
+
+    def test_other_names_of_every_sort_look_the_same(self):
+        for n in range(1, MOST_ASKED + 1):
+            for t, named in samples.classes(n):
+                for u in (list(named)[-1], list(named)[len(named) // 2]):
+                    self.assertFalse(look_apart(n, t, u))
+
+    def test_sorts_look_apart(self):
+        for n in range(1, MOST_ASKED + 1):
+            sorts = samples.classes(n)
+            for k in range(1, len(sorts)):
+                for j in range(k):
+                    self.assertTrue(look_apart(n, sorts[k][0], list(sorts[j][1])[-1]))
 
 
 class Refused(unittest.TestCase):

@@ -2,10 +2,13 @@
 
 MOST_THINGS = 16
 MOST_THINGS_IN_TURNS = 10
+MOST_THINGS_JUST_TRIED = 6
 MOST_THINGS_IN_IMAGES = 8
 MOST_THINGS_IN_COLOURS = 8
 MOST_LINES = 10
 MOST_PASSINGS = 32
+
+KEPT = -1
 
 OUT_OF_RANGE = -2
 NOT_TURNING = -3
@@ -46,6 +49,9 @@ def same(n, t, u):
     refused = refusal_of_two(n, n, t, u, MOST_THINGS)
     if refused != []:
         return refused
+    # Among many things, to try all rows would take too long to tell that there's none.
+    if n > MOST_THINGS_JUST_TRIED and look_apart(n, t, u):
+        return [NONE_FOUND]
     row = first_row_of_all(n, t, u)
     if row == []:
         return [NONE_FOUND]
@@ -66,7 +72,7 @@ def colours(n, a, c, t, passings):
     return [0, len(all_colourings(n, a, t, each_passing(c, passings)))]
 
 
-# A number below 0 is handed in as one of 2147483648 or more, so what is above the range stands for it, too.
+# A number below 0 is handed in as 2147483648 or more, so it is enough to ask what is above the range.
 def affine(m, a):
     if m < 1 or m > MOST_THINGS or a > m:
         return [OUT_OF_RANGE]
@@ -93,7 +99,7 @@ def refusal_of_two(n, m, t, u, most):
     return []
 
 
-# A number below 0 is handed in as one of 2147483648 or more, so what is above the range stands for it, too.
+# A number below 0 is handed in as 2147483648 or more, so it is enough to ask what is above the range.
 def refusal_of_lines(n, a, c, t, passings):
     if n < 1 or n > MOST_THINGS_IN_COLOURS or a > MOST_LINES or c > MOST_PASSINGS:
         return [OUT_OF_RANGE]
@@ -185,6 +191,45 @@ def all_turn_apart(n, t):
         if len(set([turned(n, t, x, y) for x in range(n)])) != n:
             return False
     return True
+
+
+# No thing's name goes into a look, so what a row of images takes to one another looks the same.
+def look_apart(n, t, u):
+    return look(n, t, []) != look(n, u, []) or looks_from_all(n, t) != looks_from_all(n, u)
+
+
+# From two things at once: from one alone, tables that differ as affine's do by a look much alike.
+def looks_from_all(n, t):
+    found = []
+    for x in range(n):
+        found.extend([look(n, t, [x, y]) for y in range(n)])
+    return sorted(found)
+
+
+# Things with the same mark get others as long as their turns tell some of them apart.
+def look(n, t, places):
+    marks = [0] * n
+    for k, x in enumerate(places):
+        marks[x] = k + 1
+    seen = []
+    parted = 0
+    while parted < len(set(marks)):
+        parted = len(set(marks))
+        signs = [sign(n, t, marks, x) for x in range(n)]
+        seen.append(sorted(signs))
+        order = sorted(set(signs))
+        marks = [order.index(one) for one in signs]
+    return seen
+
+
+# A thing that is kept is told from one that is turned into another with the same mark.
+def sign(n, t, marks, x):
+    met = []
+    for y in range(n):
+        into = turned(n, t, x, y)
+        made = turned(n, t, y, x)
+        met.append((marks[y], KEPT if into == y else marks[into], KEPT if made == x else marks[made]))
+    return (marks[x], tuple(sorted(met)))
 
 
 # What is put on last is taken up first, so the least images are put on last.
