@@ -352,6 +352,51 @@ def swapping(n, swaps):
     return table(n, turn)
 
 
+def taken_round(size, steps):
+    """Rings of that size; then things that take each ring round, by the steps that the ring's row has for them."""
+    rings, turners = size * len(steps), len(steps[0])
+
+    def turn(x, y):
+        if x < rings or y >= rings:
+            return y
+        return y - y % size + (y + steps[y // size][x - rings]) % size
+
+    return table(rings + turners, turn)
+
+
+def joined(edges):
+    """Pairs of things; those of a pair swap the pairs that it is joined to."""
+    pairs = 1 + max(max(edge) for edge in edges)
+
+    def turn(x, y):
+        return y ^ 1 if (x // 2, y // 2) in edges or (y // 2, x // 2) in edges else y
+
+    return table(2 * pairs, turn)
+
+
+def all_apart(*tables):
+    """The things of each (n, t), one behind the other; none moves another's."""
+    n, t = tables[0]
+    for m, u in tables[1:]:
+        n, t = n + m, apart(n, t, m, u)
+    return t
+
+
+def first_found(n, t, u, row=()):
+    """The answer by images in order, each that doesn't contradict those before; slow where all lead nowhere."""
+    if len(row) == n:
+        return list(row)
+    for z in sorted(set(range(n)) - set(row)):
+        longer = (*row, z)
+        size = len(longer)
+        if all(t[x * n + y] >= size or longer[t[x * n + y]] == u[longer[x] * n + longer[y]]
+               for x in range(size) for y in range(size)):
+            found = first_found(n, t, u, longer)
+            if found is not None:
+                return found
+    return None
+
+
 def takes(n, m, t, u, row):
     return all(row[t[x * n + y]] == u[row[x] * m + row[y]] for x in range(n) for y in range(n))
 

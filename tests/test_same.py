@@ -1,8 +1,9 @@
+import random
 import unittest
 from itertools import product
 
 import sample_tables as samples
-from turningthings.tables import look_apart, same
+from turningthings.tables import same
 
 # Where it isn't refused, same is called with no more things than these.
 MOST_ASKED = 6
@@ -33,7 +34,7 @@ class Same(unittest.TestCase):
     def test_the_same_table(self):
         for n in range(1, MOST_ASKED + 1):
             for t, named in samples.classes(n):
-                for u in list(named)[:20]:
+                for u in list(named)[:8]:
                     with self.subTest(n=n, u=u):
                         self.assertEqual(same(n, list(u), list(u)), [0, *range(n)])
 
@@ -46,7 +47,8 @@ class Same(unittest.TestCase):
         for n, sorts in ((1, 1), (2, 1), (3, 3), (4, 7), (5, 22), (6, 73)):
             self.assertEqual(len(samples.classes(n)), sorts)
             for t, named in samples.classes(n):
-                for u, first in named.items():
+                # One in three of six things, to save time: the first, the last and others between.
+                for u, first in list(named.items())[::-1 if n < MOST_ASKED else -3] + list(named.items())[:1]:
                     self.assertEqual(same(n, list(t), list(u)), [0] + first)
 
     def test_other_names_of_every_table_of_four(self):
@@ -144,6 +146,58 @@ class ManyThings(unittest.TestCase):
         self.assertEqual(samples.outline(15, one), samples.outline(15, two))
         self.check_not_the_same(15, one, two)
 
+    def test_taken_round_by_other_steps(self):
+        # A row of images may change places of rings and of what takes them round, and multiply the steps of a ring.
+        for size, steps, others in (
+                (7, [[1, 2, 4]], [[1, 2, 3]]),
+                (7, [[1, 2, 4, 1, 2, 4]], [[1, 2, 4, 1, 2, 2]]),
+                (11, [[1, 3, 4, 5, 9]], [[1, 3, 4, 5, 2]]),
+                (5, [[1, 2, 3, 4], [1, 2, 3, 4]], [[1, 2, 3, 4], [1, 3, 2, 4]]),
+                (5, [[1, 2, 3, 4, 0, 0], [1, 2, 3, 4, 0, 0]], [[1, 2, 3, 4, 0, 0], [1, 4, 2, 3, 0, 0]]),
+                (4, [[1, 1, 3, 3], [1, 3, 1, 3], [1, 3, 3, 1]], [[1, 1, 3, 3], [1, 1, 3, 3], [1, 3, 3, 1]]),
+                (3, [[1, 1, 2, 2], [1, 2, 1, 2], [1, 2, 2, 1], [1, 1, 1, 1]],
+                 [[1, 1, 2, 2], [1, 2, 1, 2], [1, 2, 1, 2], [1, 1, 1, 1]])):
+            with self.subTest(size=size, steps=steps):
+                n = size * len(steps) + len(steps[0])
+                self.check_not_the_same(n, samples.taken_round(size, steps), samples.taken_round(size, others))
+
+    def test_taken_round_by_the_same_steps(self):
+        for size, steps, others in (
+                (7, [[1, 2, 4]], [[6, 3, 5]]),
+                (11, [[1, 3, 4, 5, 9]], [[10, 2, 6, 7, 8]]),
+                (5, [[1, 2, 3, 4], [1, 2, 3, 4]], [[1, 2, 3, 4], [2, 4, 1, 3]]),
+                (7, [[1, 2, 3, 4, 5, 6, 0, 0, 0]], [[0, 3, 1, 0, 4, 6, 0, 2, 5]]),
+                (3, [[1, 1, 2, 2], [1, 2, 1, 2], [1, 2, 2, 1], [1, 1, 1, 1]],
+                 [[2, 2, 2, 2], [2, 1, 1, 2], [1, 1, 2, 2], [1, 2, 1, 2]])):
+            with self.subTest(size=size, steps=steps):
+                n = size * len(steps) + len(steps[0])
+                self.check_the_same(n, samples.taken_round(size, steps), samples.taken_round(size, others))
+
+    def check_the_same(self, n, t, u):
+        for names in samples.shuffles(n):
+            for v, w in ((t, samples.relabelled(n, u, names)), (samples.relabelled(n, t, names), u)):
+                answer = same(n, v, w)
+                self.assertEqual(answer[0], 0)
+                self.assertEqual(samples.relabelled(n, v, answer[1:]), w)
+
+    def test_pairs_joined_in_other_ways(self):
+        ring = [(x, (x + 1) % 8) for x in range(8)]
+        two_rings = [(x, x - x % 4 + (x + 1) % 4) for x in range(8)]
+        cube = [(x, x ^ bit) for x in range(8) for bit in (1, 2, 4)]
+        ladder = ring + [(x, (x + 4) % 8) for x in range(8)]
+        for one, other in ((ring, two_rings), (cube, ladder)):
+            self.check_not_the_same(16, samples.joined(one), samples.joined(other))
+            self.check_the_same(16, samples.joined(one), samples.joined([(7 - x, 7 - y) for x, y in one]))
+
+    def test_other_steps_of_one_among_many(self):
+        two, three, still = (5, samples.affine(5, 2)), (5, samples.affine(5, 3)), (1, [0])
+        for n, tables, others in ((15, (two, two, two), (two, three, two)),
+                                  (16, (two, two, three, still), (three, still, two, three)),
+                                  (14, ((7, samples.affine(7, 3)), (7, samples.affine(7, 5))),
+                                   ((7, samples.affine(7, 3)), (7, samples.affine(7, 3))))):
+            self.check_not_the_same(n, samples.all_apart(*tables), samples.all_apart(*others))
+            self.check_the_same(n, samples.all_apart(*tables), samples.all_apart(*tables[::-1]))
+
     def test_seven_things_that_are_the_same(self):
         for name, n, t in samples.turning():
             if n == 7:
@@ -152,24 +206,32 @@ class ManyThings(unittest.TestCase):
                     with self.subTest(name, names=names):
                         self.assertEqual(same(n, t, u), samples.same(n, t, u))
 
-    def test_other_names_look_the_same(self):
+    def test_many_things_that_are_the_same(self):
         for name, n, t in samples.turning():
-            for names in list(samples.shuffles(n))[:3 if n < 10 else 1]:
-                with self.subTest(name, names=names):
-                    self.assertFalse(look_apart(n, t, samples.relabelled(n, t, names)))
+            if n > MOST_ASKED:
+                u = samples.relabelled(n, t, list(samples.shuffles(n))[2])
+                with self.subTest(name):
+                    self.assertEqual(samples.relabelled(n, t, same(n, t, u)[1:]), u)
+                    self.assertEqual(same(n, t, t), [0, *range(n)])
 
-    def test_other_names_of_every_sort_look_the_same(self):
-        for n in range(1, MOST_ASKED + 1):
-            for t, named in samples.classes(n):
-                for u in (list(named)[-1], list(named)[len(named) // 2]):
-                    self.assertFalse(look_apart(n, t, u))
+    def test_the_first_of_many_rows(self):
+        for name, n, t in samples.turning():
+            if 7 < n < 10:
+                for names in samples.shuffles(n):
+                    u = samples.relabelled(n, t, names)
+                    with self.subTest(name, names=names):
+                        self.assertEqual(same(n, t, u), [0] + samples.first_found(n, t, u))
 
-    def test_sorts_look_apart(self):
-        for n in range(1, MOST_ASKED + 1):
-            sorts = samples.classes(n)
-            for k in range(1, len(sorts)):
-                for j in range(k):
-                    self.assertTrue(look_apart(n, sorts[k][0], list(sorts[j][1])[-1]))
+    def test_the_first_row_by_many_names(self):
+        chance = random.Random(5)
+        for size, steps in ((8, [[1, 5]]), (4, [[1, 3], [1, 1]]), (5, [[1, 2, 3, 4]])):
+            n = size * len(steps) + len(steps[0])
+            tables = [samples.taken_round(size, steps)]
+            for k in range(30):
+                tables.append(samples.relabelled(n, tables[0], chance.sample(range(n), n)))
+            for t, u in zip(tables, tables[1:]):
+                with self.subTest(t=t, u=u):
+                    self.assertEqual(same(n, t, u), [0] + samples.first_found(n, t, u))
 
 
 class Refused(unittest.TestCase):

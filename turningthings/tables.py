@@ -2,13 +2,10 @@
 
 MOST_THINGS = 16
 MOST_THINGS_IN_TURNS = 10
-MOST_THINGS_JUST_TRIED = 6
 MOST_THINGS_IN_IMAGES = 8
 MOST_THINGS_IN_COLOURS = 8
 MOST_LINES = 10
 MOST_PASSINGS = 32
-
-KEPT = -1
 
 OUT_OF_RANGE = -2
 NOT_TURNING = -3
@@ -49,13 +46,8 @@ def same(n, t, u):
     refused = refusal_of_two(n, n, t, u, MOST_THINGS)
     if refused != []:
         return refused
-    # Among many things, to try all rows would take too long to tell that there's none.
-    if n > MOST_THINGS_JUST_TRIED and look_apart(n, t, u):
-        return [NONE_FOUND]
-    row = first_row_of_all(n, t, u)
-    if row == []:
-        return [NONE_FOUND]
-    return [0] + row
+    rows = rows_by_name(n, t, u)
+    return [0] + rows[0] if rows != [] else [NONE_FOUND]
 
 
 def images(n, m, t, u):
@@ -193,56 +185,137 @@ def all_turn_apart(n, t):
     return True
 
 
-# No thing's name goes into a look, so what a row of images takes to one another looks the same.
-def look_apart(n, t, u):
-    return look(n, t, []) != look(n, u, []) or looks_from_all(n, t) != looks_from_all(n, u)
+# No thing's name goes into ties and looks, so what a row of images takes to one another can't be told apart by them.
+# In the order of names there may be many rows before it shows that all lead nowhere, so another order comes first.
+def rows_by_name(n, t, u):
+    ties_of_t = ties(n, t)
+    ties_of_u = ties(n, u)
+    if not are_alike(ties_of_t, ties_of_u):
+        return []
+    tied = ranks(ties_of_t[-1])
+    others = ranks(ties_of_u[-1])
+    if rows_alike(n, t, u, tied, others, telling_places(n, t, tied)) == []:
+        return []
+    return rows_alike(n, t, u, tied, others, list(range(n)))
 
 
-# From two things at once: from one alone, tables that differ as affine's do by a look much alike.
-def looks_from_all(n, t):
+# Looks from these tell all things apart; the one that tells most of them apart comes first.
+def telling_places(n, t, tied):
+    places = []
+    while parts(n, t, tied, places) < n:
+        counts = [parts(n, t, tied, places + [x]) for x in range(n)]
+        places.append(counts.index(max(counts)))
+    return places
+
+
+def parts(n, t, tied, places):
+    return len(set(look(n, t, tied, places)[-1]))
+
+
+# A row of images of all things that looks like them from there takes t's turns to u's.
+def rows_alike(n, t, u, tied, others, places):
+    rows = [[]]
+    for k in range(len(places)):
+        aim = look(n, t, tied, places[:k + 1])
+        found = []
+        for row in rows:
+            found.extend(longer_rows_alike(n, u, others, row, aim))
+        rows = found
+    return rows
+
+
+# Where u's turns can be taken to themselves and one longer row to another, both lead on or neither does, and the
+# first to lesser rows: so it is enough.
+def longer_rows_alike(n, u, tied, row, aim):
     found = []
-    for x in range(n):
-        found.extend([look(n, t, [x, y]) for y in range(n)])
-    return sorted(found)
+    for z in range(n):
+        longer = row + [z]
+        if z not in row and are_alike(look(n, u, tied, longer), aim):
+            if not any([takes_to(n, u, tied, other, longer) for other in found]):
+                found.append(longer)
+    return found
 
 
-# Things with the same mark get others as long as their turns tell some of them apart.
-def look(n, t, places):
-    marks = [0] * n
-    for k, x in enumerate(places):
-        marks[x] = k + 1
+# One guess after another: where they go astray, a row too many is kept, which takes time but changes no answer.
+def takes_to(n, u, tied, first, second):
+    while second != []:
+        marks = ranks(look(n, u, tied, first)[-1])
+        others = ranks(look(n, u, tied, second)[-1])
+        if takes_turns(n, n, u, u, images_by_marks(n, marks, others)):
+            return True
+        x = one_of_most(marks)
+        first = first + [x]
+        places = [z for z in range(n) if others[z] == marks[x]]
+        second = first_alike(n, u, tied, second, places, look(n, u, tied, first))
+    return False
+
+
+def first_alike(n, u, tied, row, places, aim):
+    for z in places:
+        if are_alike(look(n, u, tied, row + [z]), aim):
+            return row + [z]
+    return []
+
+
+def images_by_marks(n, marks, others):
+    order = sorted(range(n), key=lambda x: marks[x])
+    images_in_order = sorted(range(n), key=lambda z: others[z])
+    return [images_in_order[order.index(x)] for x in range(n)]
+
+
+# Tried on many tables, a guess among the most that share a mark was wrong least often.
+def one_of_most(marks):
+    counts = [marks.count(mark) for mark in marks]
+    return counts.index(max(counts))
+
+
+def are_alike(one, other):
+    return [sorted(signs) for signs in one] == [sorted(signs) for signs in other]
+
+
+def ranks(signs):
+    order = {}
+    for k, one in enumerate(sorted(set(signs))):
+        order[one] = k
+    return [order[one] for one in signs]
+
+
+# Signs are made of marks and marks of signs, as long as that tells more of them apart.
+def told_apart(marks, signs_by):
     seen = []
     parted = 0
     while parted < len(set(marks)):
         parted = len(set(marks))
-        signs = [sign(n, t, marks, x) for x in range(n)]
-        seen.append(sorted(signs))
-        order = sorted(set(signs))
-        marks = [order.index(one) for one in signs]
+        seen.append(signs_by(marks))
+        marks = ranks(seen[-1])
     return seen
 
 
-# A thing that is kept is told from one that is turned into another with the same mark.
-def sign(n, t, marks, x):
+# What any two things are to one another. It is looked at once alone, since it takes longest.
+def ties(n, t):
+    at_first = [1 if k // n == k % n else 0 for k in range(n * n)]
+    return told_apart(at_first, lambda tied: [tie_sign(n, t, tied, k // n, k % n) for k in range(n * n)])
+
+
+def tie_sign(n, t, tied, x, y):
     met = []
-    for y in range(n):
-        into = turned(n, t, x, y)
-        made = turned(n, t, y, x)
-        met.append((marks[y], KEPT if into == y else marks[into], KEPT if made == x else marks[made]))
+    for z in range(n):
+        by_x = turned(n, t, x, z)
+        by_y = turned(n, t, y, z)
+        met.append((tied[x * n + z], tied[y * n + z], tied[by_x * n + by_y], tied[by_x * n + y], tied[by_y * n + x],
+                    tied[turned(n, t, z, x) * n + y], tied[turned(n, t, z, y) * n + x]))
+    return (tied[x * n + y], tuple(sorted(met)))
+
+
+# What each thing is to those at the places, which are told from all others.
+def look(n, t, tied, places):
+    at_first = [places.index(x) + 1 if x in places else 0 for x in range(n)]
+    return told_apart(at_first, lambda marks: [sign(n, t, tied, marks, x) for x in range(n)])
+
+
+def sign(n, t, tied, marks, x):
+    met = [(tied[x * n + y], marks[y], marks[turned(n, t, x, y)], marks[turned(n, t, y, x)]) for y in range(n)]
     return (marks[x], tuple(sorted(met)))
-
-
-# What is put on last is taken up first, so the least images are put on last.
-def first_row_of_all(n, t, u):
-    ahead = [[]]
-    while ahead != []:
-        row = ahead.pop()
-        if len(row) == n:
-            return row
-        for longer in reversed(longer_rows(n, n, t, u, row)):
-            if len(set(longer)) == len(longer):
-                ahead.append(longer)
-    return []
 
 
 def all_rows(n, m, t, u):
